@@ -1,0 +1,1 @@
+"""Ramet: machines that build machines."""
