@@ -53,9 +53,15 @@ def _read(phase, sym):
     """Return phase, sent and symbol of a reader that takes a symbol, or finds none (0)."""
     if sym == 0:
         return phase, 0, 0
-    # By the table in 1.12 the START that ends phase 5 is not copied, nor the one that ends phase 3.
-    copy = phase == 2 or (phase == 3 and sym != START)
-    return _next_phase(phase, sym), 0 if copy else 2, sym
+    return _next_phase(phase, sym), 0 if _is_copied(phase, sym) else 2, sym
+
+
+def _is_copied(phase, sym):
+    """Tell whether there is to be a copy of a symbol that is taken in a phase."""
+    # A child's ring begins with START: it is copied where phase 5 ends, not where phase 3 does.
+    if phase == 5:
+        return sym == START
+    return phase == 2 or (phase == 3 and sym != START)
 
 
 def _next_phase(phase, sym):

@@ -131,12 +131,8 @@ def random_patterns(seed, many):
     return patterns
 
 
-def constructor():
-    """Return the pattern of a small constructor, and what it leaves beside itself.
-
-    It reads "forth right d2 forth w1 w0 left w0 stop" from its ring, so it puts one wire down.
-    """
-    tape = (6, 3, 2, 10, 3, 25, 24, 1, 24, 5, 7)
+def loaded(tape):
+    """Return the pattern of a constructor with a tape in its ring, and the column of its arm."""
     cells = 2 * len(tape) + 6
     width = cells // 2
     middle = (width - 1) // 2
@@ -153,4 +149,13 @@ def constructor():
     pattern[(middle, 1)] = ("arm", 1, 1, 0, 0)
     pattern[(middle, 2)] = ("reader", 0, 0, 1, 1, 0, 0)
     pattern[(middle, 3)] = ("join", 2, 0, 1, 0)
+    return pattern, middle
+
+
+def constructor():
+    """Return the pattern of a small constructor, and what it leaves beside itself.
+
+    It reads "forth right d2 forth w1 w0 left w0 stop" from its ring, so it puts one wire down.
+    """
+    pattern, middle = loaded((6, 3, 2, 10, 3, 25, 24, 1, 24, 5, 7))
     return pattern, {(middle + 2, -1): ("wire", 0, 0)}

@@ -137,7 +137,7 @@ READING = {
     0: {7: (1, False), "other": (0, False)},
     1: {6: (2, False), "other": (1, False)},
     2: {4: (5, True), 5: (6, True), "other": (2, True)},
-    5: {6: (3, False), "other": (5, False)},
+    5: {6: (3, True), "other": (5, False)},
     3: {6: (4, False), "other": (3, True)},
     6: {6: (4, False), "other": (6, False)},
 }

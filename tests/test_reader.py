@@ -4,7 +4,9 @@ import unittest
 
 from ramet.kinds import END, FORTH, LEFT, PORT, START, STOP, WRITE
 
-from tests.helpers import EAST, NORTH, SOUTH, WEST, RuleCase, cell_around
+from ramet.space import run
+
+from tests.helpers import EAST, NORTH, SOUTH, STEPS, WEST, RuleCase, cell_around, loaded
 
 
 def reader(phase, ask, sent, sym, side=0):
@@ -33,7 +35,7 @@ class TakingTest(RuleCase):
         (2, (PORT,), 5, True),
         (2, (STOP,), 6, True),
         (2, (LEFT, FORTH, START, END, 8, 23, WRITE, 96), 2, True),
-        (5, (START,), 3, False),
+        (5, (START,), 3, True),
         (5, (LEFT, FORTH, PORT, STOP, END, 8, 23, WRITE, 96), 5, False),
         (3, (START,), 4, False),
         (3, (LEFT, FORTH, PORT, STOP, END, 8, 23, WRITE, 96), 3, True),
@@ -64,6 +66,23 @@ class TakingTest(RuleCase):
 
     def test_a_symbol_taken_is_not_given_in_the_same_step(self):
         self.becomes(reader(2, 1, 0, 0), bringing(9, east=FRONT, north=root()), reader(2, 1, 0, 9))
+
+
+class CopyOfTheTapeTest(unittest.TestCase):
+    """1.12: behind PORT, the reader gives the whole tape to the port, from START to END, and parks."""
+
+    def test_from_start_to_end(self):
+        for commands, way in (((FORTH,), NORTH), ((FORTH, 8, 23), NORTH), ((FORTH, LEFT), WEST), ((FORTH, 2), EAST)):
+            tape = (START,) + commands + (PORT, END)
+            pattern, middle = loaded(tape)
+            dx, dy = STEPS[way]
+            row = [(middle + k * dx, k * dy - 1) for k in range(1, len(tape) + 3)]
+            pattern.update({place: ("wire", way, 0) for place in row})
+            after = run(pattern, 400)
+            held = [after[place][2] for place in reversed(row) if after[place][2]]
+            self.assertEqual(tuple(held), tape)
+            self.assertEqual(after[middle, 2][:4], ("reader", EAST, 0, 4))
+            self.assertNotIn((middle, -1), after)
 
 
 class GivingTest(RuleCase):
