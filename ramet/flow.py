@@ -21,7 +21,7 @@ def offer(state, way):
     if kind == "wire" or kind == "not" or kind == "join" or kind == "port":
         return state[-1] if way == state[1] else 0
     if kind == "and" or kind == "or":
-        return _result(kind, state[3], state[4]) if way == state[1] else 0
+        return result_of(kind, state[3], state[4]) if way == state[1] else 0
     if kind == "cross":
         return _cross_offer(state, way)
     if kind == "fork":
@@ -31,7 +31,7 @@ def offer(state, way):
     return 0
 
 
-def _result(kind, one, two):
+def result_of(kind, one, two):
     """Return what an and or an or makes of its two values, 0 if one of them is missing."""
     if one == 0 or two == 0:
         return 0
@@ -117,8 +117,13 @@ def next_wire(state, around):
         return (kind, way, 0) if is_taken(around, way) else state
     sym = offered(around, ((way + 2) % 4, (way + 1) % 4, (way + 3) % 4))
     if kind == "not" and sym != 0:
-        sym = ONE if sym == ZERO else ZERO
+        sym = negated(sym)
     return (kind, way, sym)
+
+
+def negated(sym):
+    """Return what a not makes of a symbol that it takes."""
+    return ONE if sym == ZERO else ZERO
 
 
 def next_fork(state, around):
@@ -152,13 +157,13 @@ def next_gate(state, around):
     if one != 0 and two != 0:
         return (kind, way, side, 0, 0) if is_taken(around, way) else state
     if one == 0:
-        one = _value(offered(around, (opposite(way),)))
+        one = value_of(offered(around, (opposite(way),)))
     if two == 0:
-        two = _value(offered(around, (side_way(state),)))
+        two = value_of(offered(around, (side_way(state),)))
     return (kind, way, side, one, two)
 
 
-def _value(sym):
+def value_of(sym):
     """Return what an and or an or notes of a symbol."""
     if sym == 0:
         return 0

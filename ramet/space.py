@@ -1,6 +1,7 @@
 """Patterns, and their steps by the definition."""
 
 from ramet.kinds import is_integer, is_state, turned
+from ramet.places import by_rows
 from ramet.yard import next_state
 
 
@@ -45,11 +46,7 @@ def difference(first, second):
     """Return the places at which two patterns differ, in ascending order of (y, x)."""
     places = [place for place in first if first[place] != second.get(place)]
     places.extend([place for place in second if place not in first])
-    return sorted(places, key=_row_and_column)
-
-
-def _row_and_column(place):
-    return (place[1], place[0])
+    return by_rows(places)
 
 
 def box(pattern):
@@ -63,8 +60,7 @@ def box(pattern):
 
 def cells(pattern):
     """Return the cells as tuples (x, y, state), in ascending order of (y, x)."""
-    places = sorted(pattern, key=_row_and_column)
-    return [(x, y, pattern[x, y]) for x, y in places]
+    return [(x, y, pattern[x, y]) for x, y in by_rows(pattern)]
 
 
 def from_cells(rows):

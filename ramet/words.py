@@ -21,6 +21,11 @@ def word_number(word):
     return number
 
 
+def number_word(number, bits):
+    """Return the word of a number of bits that has a place in their order."""
+    return tuple([(number >> (bits - 1 - k)) & 1 for k in range(bits)])
+
+
 def all_words(bits):
     """Return the words of a number of bits, in order."""
     words = [()]

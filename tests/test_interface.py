@@ -17,6 +17,13 @@ FUNCTIONS = {
     },
     "machine": {"equal_answers": "first second"},
     "written": {"text_of": "machine", "machine_of": "text"},
+    "plane": {"state_bits": "machine", "plane": "machine", "run_plane": "terms state_bits outputs words"},
+    "net": {"nodes": "net", "handed": "net most", "last_step": "net"},
+    "layout": {"lay_out": "machine"},
+    "feed": {"feed": "layout words", "due": "layout words", "drain": "layout pattern n"},
+    "tape": {"is_tape": "value", "copies": "tape", "tape_line": "tape", "read_tape": "text"},
+    "walker": {"meaning": "tape"},
+    "describe": {"describe": "pattern", "times": "command n"},
 }
 METHODS = {
     ("engine", "Engine"): {
@@ -27,7 +34,15 @@ METHODS = {
         "__init__": "self states inputs outputs rows", "row": "self state word", "run": "self words",
         "trace": "self words", "table": "self",
     },
+    ("layout", "Layout"): {},
+    ("walker", "Made"): {},
 }
+ATTRIBUTES = {
+    ("machine", "Machine"): "states inputs outputs",
+    ("layout", "Layout"): "pattern ins outs",
+    ("walker", "Made"): "cells road steps lengths visits trail place direction",
+}
+NUMBERS = {"tape": {"MOST_SYMBOLS": 400, "REACH": 200}}
 ERRORS = (
     "RametError", "NotWritten", "BadMachine", "BadWord", "BadText", "NotNet", "TwoGivers", "TooMany", "NotThere",
     "BadTape", "NoRoom", "InTheWay", "BadRing", "NotOwn", "NotStill", "Crowded", "Loaded", "BadWall", "NotQuiet",
@@ -57,6 +72,20 @@ class InterfaceTest(unittest.TestCase):
             found = functions_in(classes[wanted_class].body)
             for method, arguments in wanted.items():
                 self.assertEqual(found.get(method), arguments, (wanted_class, method))
+
+    def test_attributes_are_set_when_an_object_is_created(self):
+        for (name, wanted_class), wanted in ATTRIBUTES.items():
+            classes = {node.name: node for node in tree(name).body if isinstance(node, ast.ClassDef)}
+            methods = {node.name: node for node in classes[wanted_class].body if isinstance(node, ast.FunctionDef)}
+            stored = [node for node in ast.walk(methods["__init__"]) if isinstance(node, ast.Attribute)]
+            found = [node.attr for node in stored if isinstance(node.ctx, ast.Store)]
+            self.assertTrue(set(wanted.split(" ")) <= set(found), wanted_class)
+
+    def test_numbers(self):
+        for name, wanted in NUMBERS.items():
+            module = importlib.import_module(f"ramet.{name}")
+            for number, value in wanted.items():
+                self.assertEqual(getattr(module, number), value)
 
     def test_errors(self):
         classes = [node.name for node in tree("errors").body if isinstance(node, ast.ClassDef)]
