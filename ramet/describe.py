@@ -1,9 +1,9 @@
 """Descriptions: the tape whose walk writes a pattern."""
 
-from ramet.errors import BadTape, NoRoom
-from ramet.kinds import DIGIT, END, FORTH, LEFT, RIGHT, START, STOP, WRITE, written_number
-from ramet.tape import MOST_SYMBOLS, REACH
-from ramet.walker import MOST_COUNT, meaning
+from ramet.errors import NoRoom
+from ramet.kinds import DIGIT, END, FORTH, LEFT, MOST_COUNT, RIGHT, START, STOP, WRITE, written_number
+from ramet.tape import REACH
+from ramet.walker import meaning
 
 
 def times(command, n):
@@ -28,8 +28,7 @@ def describe(pattern):
         if x < -REACH or x > REACH or y < -REACH or y > -1:
             raise NoRoom(f"the place {x}, {y} is out of reach")
     tape = (START,) + commands(numbers, -1) + (STOP, END)
-    if len(tape) > MOST_SYMBOLS:
-        raise BadTape("the tape would have too many symbols")
+    # This refuses a tape with too many symbols, too: it is none.
     meaning(tape)
     return tape
 

@@ -1,10 +1,8 @@
 """The arm and what it works with: its cells, the head, the port, and the ground that it grows over."""
 
 from ramet.flow import is_taken, opposite
-from ramet.kinds import DIGIT, END, FORTH, LEFT, PORT, RIGHT, STOP, WRITE, written_state
+from ramet.kinds import DIGIT, END, FORTH, LEFT, MOST_COUNT, PORT, RIGHT, STOP, WRITE, written_state
 from ramet.reader import copy_given
-
-MOST_COUNT = 255
 
 
 def _points(state, kind, way):

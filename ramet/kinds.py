@@ -35,6 +35,9 @@ HIGHEST = {
 
 MOST_WRITTEN = 72
 
+# A head counts no further.
+MOST_COUNT = 255
+
 # Ground, with the number 0, is not in the table. Each entry has the first of its numbers, the kind,
 # and what may stand behind the direction: for each direction in turn, these endings are numbered.
 WRITTEN = (

@@ -30,7 +30,6 @@ class Sizes:
 
     def __init__(self, inputs, bits, outputs, rows):
         self.inputs = inputs
-        self.bits = bits
         self.literals = inputs + bits
         self.sums = bits + outputs
         # The first line south of the rows.

@@ -119,5 +119,5 @@ def _stations(net, most):
         transfers.put_in(state[0], sources, targets, _held(state, channel), sent)
     # What a symbol waits for has, at its own node, no greater number, except that each fork that
     # has sent to one side at the beginning is one symbol ahead there. So this finds enough.
-    transfers.find(most + sent_before)
+    transfers.find_first(most + sent_before)
     return transfers.stations

@@ -1,8 +1,6 @@
 """Places, and the directions between them."""
 
-EAST = 0
 NORTH = 1
-WEST = 2
 SOUTH = 3
 
 # How far x and y change in the directions 0 to 3.

@@ -6,8 +6,6 @@ from ramet.kinds import DIGIT, END, FORTH, LEFT, MOST_WRITTEN, PORT, RIGHT, STAR
 MOST_SYMBOLS = 400
 REACH = 200
 
-MOST_DIGIT = 15
-
 # The words of the symbols 1 to 7, which have no number; no symbol is 0.
 PLAIN_WORDS = ("", "left", "right", "forth", "port", "stop", "start", "end")
 

@@ -34,25 +34,27 @@ class Transfers:
         """Add the next station: `held` has a symbol or 0 for each inlet, `sent` is that of a fork."""
         self.stations.append(Station(kind, sources, targets, held, sent))
 
-    def find(self, most):
+    def find_first(self, most):
         """Find, for each outlet, its first transfers: `most`, or as many as ever happen."""
         waiting = list(range(len(self.stations)))
         while len(waiting) > 0:
-            station = self.stations[waiting.pop()]
-            for outlet, (number, inlet) in enumerate(station.targets):
-                if number >= 0 and len(station.given[outlet]) < most:
-                    step = _next_step(station, outlet, self.stations[number], inlet)
+            number = waiting.pop()
+            station = self.stations[number]
+            for outlet, (target, inlet) in enumerate(station.targets):
+                if target >= 0 and len(station.given[outlet]) < most:
+                    step = _next_step(station, outlet, self.stations[target], inlet)
                     if step > 0:
-                        self._give(station, outlet, step)
+                        self._give(number, outlet, step)
                         # The target may have all that it needs now, and so may those that wait
                         # for this station to be empty.
-                        waiting.append(number)
+                        waiting.append(target)
                         waiting.extend([source for source in station.sources if source >= 0])
 
-    def _give(self, station, outlet, step):
+    def _give(self, number, outlet, step):
         """Note the next transfer by an outlet of a station."""
-        number, inlet = station.targets[outlet]
-        target = self.stations[number]
+        station = self.stations[number]
+        target_number, inlet = station.targets[outlet]
+        target = self.stations[target_number]
         k = len(station.given[outlet])
         sym = _symbol(station, k)
         station.given[outlet].append(step)

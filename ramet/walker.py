@@ -1,11 +1,10 @@
 """The walker: it carries out the commands of a tape as an arm does, and notes what comes of it."""
 
 from ramet.errors import BadTape, InTheWay, NoRoom
-from ramet.kinds import DIGIT, FORTH, LEFT, RIGHT, WRITE, written_state
+from ramet.kinds import DIGIT, FORTH, LEFT, MOST_COUNT, WRITE, written_state
 from ramet.places import NORTH, by_rows, next_place
 from ramet.tape import REACH, is_tape
 
-MOST_COUNT = 255
 MOST_ROAD = 4096
 
 
@@ -94,9 +93,8 @@ class Walker:
             if front in self._on_trail:
                 raise InTheWay("an arm would be written whose front is on the trail")
             self._fronts[front] = True
-        if state is None:
-            self._cells.pop(self._place, None)
-        else:
+        # Nothing was written here before, because a step leads to a free place only.
+        if state is not None:
             self._cells[self._place] = state
         self._place, self._direction = self._trail.pop()
         del self._on_trail[self._place]

@@ -94,6 +94,14 @@ class LanguageTest(unittest.TestCase):
             self.assertTrue(free, sorted(set(imports) - done))
             done.update(free)
 
+    def test_imports_and_private_names_are_used(self):
+        for name, tree in each_tree():
+            given = [alias.name for node in ast.walk(tree) if isinstance(node, ast.ImportFrom) for alias in node.names]
+            given += [word for node in tree.body for word in names_given(node) if word.startswith("_")]
+            used = {node.id for node in ast.walk(tree) if isinstance(node, ast.Name) and isinstance(node.ctx, ast.Load)}
+            for word in given:
+                self.assertIn(word, used, name)
+
     def test_module_level(self):
         allowed = (ast.ImportFrom, ast.Import, ast.FunctionDef, ast.ClassDef, ast.Assign, ast.Expr, ast.If)
         for name, tree in each_tree():
