@@ -24,6 +24,18 @@ FUNCTIONS = {
     "tape": {"is_tape": "value", "copies": "tape", "tape_line": "tape", "read_tape": "text"},
     "walker": {"meaning": "tape"},
     "describe": {"describe": "pattern", "times": "command n"},
+    "body": {
+        "body": "n", "machine": "tape", "parked": "tape", "built": "tape", "ring": "n", "road_of": "tape",
+        "body_box": "tape", "room": "tape", "ring_of": "tape",
+    },
+    "arm": {"gives": "tape", "done": "tape", "rest_of": "tape"},
+    "own": {"own": "tape", "born": "tape", "goods": "tape", "heir": "pattern"},
+    "kin": {
+        "apart": "first second", "is_barrier": "state", "moved_box": "box dx dy", "is_parent": "tape",
+        "halted_cells": "tape halt", "rest_after": "tape halt",
+    },
+    "look": {"look": "families now time"},
+    "mend": {"errand": "whole lost place", "repair": "now errand"},
 }
 METHODS = {
     ("engine", "Engine"): {
@@ -36,13 +48,19 @@ METHODS = {
     },
     ("layout", "Layout"): {},
     ("walker", "Made"): {},
+    ("families", "Families"): {
+        "__init__": "self starts walls", "grow": "self until", "machines": "self", "tape": "self number",
+        "line": "self number", "cells_of": "self number", "start": "self", "space": "self time", "is_quiet": "self time",
+    },
+    ("mend", "Errand"): {"__init__": "self tape corner steps"},
 }
 ATTRIBUTES = {
     ("machine", "Machine"): "states inputs outputs",
     ("layout", "Layout"): "pattern ins outs",
     ("walker", "Made"): "cells road steps lengths visits trail place direction",
+    ("mend", "Errand"): "tape corner steps",
 }
-NUMBERS = {"tape": {"MOST_SYMBOLS": 400, "REACH": 200}}
+NUMBERS = {"tape": {"MOST_SYMBOLS": 400, "REACH": 200}, "kin": {"FAR": 50000, "MOST_KIN": 24}}
 ERRORS = (
     "RametError", "NotWritten", "BadMachine", "BadWord", "BadText", "NotNet", "TwoGivers", "TooMany", "NotThere",
     "BadTape", "NoRoom", "InTheWay", "BadRing", "NotOwn", "NotStill", "Crowded", "Loaded", "BadWall", "NotQuiet",
