@@ -1,6 +1,6 @@
 """What becomes of a constructor, told without running it: when it gives, and its rest."""
 
-from ramet.body import built, parked, ring_of
+from ramet.body import built, parked, ring_size
 from ramet.errors import NotOwn, NotStill
 from ramet.own import own
 from ramet.pace import give_steps
@@ -16,8 +16,9 @@ def gives(tape):
 
 def done(tape):
     """Return the last step at which a cell of the constructor changes."""
-    last, length = gives(tape)[-1], len(meaning(tape).trail)
-    many, n = len(tape), ring_of(tape)
+    made = meaning(tape)
+    last, length = give_steps(made)[-1], len(made.trail)
+    many, n = len(tape), ring_size(tape)
     if not copies(tape):
         return max(last + 2 * length + 1, last + many + 8, n + 1)
     if own(tape) is None:

@@ -51,10 +51,15 @@ def _check_ring(n):
         raise BadRing(f"no ring has {n} cells")
 
 
-def ring_of(tape):
-    """Return the number of cells of the ring for a tape."""
-    meaning(tape)
+def ring_size(tape):
+    """Return the number of cells of the ring for a tape, without a look at what it means."""
     return 2 * len(tape) + 6
+
+
+def ring_of(tape):
+    """Return the number of cells of the ring for a tape, which must mean something."""
+    meaning(tape)
+    return ring_size(tape)
 
 
 def machine(tape):
@@ -82,13 +87,14 @@ def _filled(n, reader, symbols):
 
 def built(tape):
     """Return the cells that a tape means."""
-    return moved(meaning(tape).cells, arm_column(ring_of(tape)), 0)
+    return moved(meaning(tape).cells, arm_column(ring_size(tape)), 0)
 
 
 def road_of(tape):
     """Return the places of a tape's road, in ascending order of (y, x)."""
-    a = arm_column(ring_of(tape))
-    return tuple([(x + a, y) for x, y in meaning(tape).road])
+    made = meaning(tape)
+    a = arm_column(ring_size(tape))
+    return tuple([(x + a, y) for x, y in made.road])
 
 
 def body_box(tape):
@@ -104,7 +110,7 @@ def room(tape):
     if copies(tape):
         places.append(next_place(made.place, made.direction))
     x0, y0, x1, y1 = body_box(tape)
-    a = arm_column(ring_of(tape))
+    a = arm_column(ring_size(tape))
     columns = [x + a for x, _ in places]
     rows = [y for _, y in places]
     return (min(x0, min(columns)), min(y0, min(rows)), max(x1, max(columns)), max(y1, max(rows)))

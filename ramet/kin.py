@@ -1,7 +1,7 @@
 """What families need to know of boxes, walls and tapes."""
 
 from ramet.arm import done, rest_of
-from ramet.body import arm_column, parked, ring_of
+from ramet.body import arm_column, parked, ring_size
 from ramet.errors import NotStill
 from ramet.kinds import END, STOP
 from ramet.own import goods
@@ -58,7 +58,7 @@ def halted_cells(tape, halt):
     if halt == 0:
         return _free_cells(tape)
     written = meaning(tape[:halt] + (STOP, END)).cells
-    return union(parked(tape), moved(written, arm_column(ring_of(tape)), 0))
+    return union(parked(tape), moved(written, arm_column(ring_size(tape)), 0))
 
 
 def _free_cells(tape):

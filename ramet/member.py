@@ -1,6 +1,6 @@
 """The machines of a family, each by itself."""
 
-from ramet.body import arm_column, body_box, built, ring_of, road_of, room
+from ramet.body import arm_column, body_box, built, ring_size, road_of, room
 from ramet.kin import halted_cells, is_parent, moved_box, rest_after
 from ramet.own import born, own
 from ramet.space import moved
@@ -17,7 +17,7 @@ class Breed:
         self.room = room(tape)
         self.road = road_of(tape)
         self.built = built(tape)
-        a = arm_column(ring_of(tape))
+        a = arm_column(ring_size(tape))
         self.visits = [[(x + a, y) for x, y in visited] for visited in meaning(tape).visits]
         self.childs_corner = own(tape)
         self.childs_delay = born(tape) - 1 if self.bears else 0

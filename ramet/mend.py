@@ -1,7 +1,7 @@
 """Repair: a neighbour is set down beside a pattern, and puts back what was lost."""
 
 from ramet.arm import done, rest_of
-from ramet.body import arm_column, body_box, machine, ring_of, road_of
+from ramet.body import arm_column, body_box, machine, ring_size, road_of
 from ramet.describe import describe
 from ramet.engine import Engine
 from ramet.errors import Crowded, NotNetCell, NotPart, NotStill, Touched
@@ -27,7 +27,7 @@ def errand(whole, lost, place):
     _check_harm(whole, lost)
     tape = describe(moved(lost, -place[0], -place[1]))
     rest_of(tape)
-    corner = (place[0] - arm_column(ring_of(tape)), place[1])
+    corner = (place[0] - arm_column(ring_size(tape)), place[1])
     found = Errand(tape, corner, done(tape))
     others = {spot: whole[spot] for spot in whole if spot not in lost}
     road = [(x + corner[0], y + corner[1]) for x, y in road_of(tape)]

@@ -1,6 +1,6 @@
 """Tapes that describe their own constructor."""
 
-from ramet.body import arm_column, body, body_box, built, ring_of, road_of, width
+from ramet.body import arm_column, body, body_box, built, ring_size, road_of, width
 from ramet.describe import commands
 from ramet.errors import NoRoom, NotOwn, NotWritten
 from ramet.kinds import END, PORT, START, written_number
@@ -27,7 +27,7 @@ def own(tape):
     # The child's join stands to the north of the place at which the walk ends.
     corner = (made.place[0], made.place[1] - 4)
     inside, others = _parts(tape, corner)
-    if inside != moved(body(ring_of(tape)), corner[0], corner[1]):
+    if inside != moved(body(ring_size(tape)), corner[0], corner[1]):
         return None
     if _is_road_free(tape, corner) and _are_goods(others, tape, corner):
         return corner
@@ -44,7 +44,7 @@ def born(tape):
     """Return the step after which the child's reader has just begun to give."""
     _corner_of_child(tape)
     made = meaning(tape)
-    n = ring_of(tape)
+    n = ring_size(tape)
     return give_steps(made)[-1] + 3 * len(made.trail) + 4 + 2 * arm_column(n) + n
 
 
@@ -83,7 +83,7 @@ def _childs_road(tape, corner):
 def _is_road_free(tape, corner):
     """Tell whether no entry of the trail at the end, except the root, is on the child's road."""
     road = _childs_road(tape, corner)
-    a = arm_column(ring_of(tape))
+    a = arm_column(ring_size(tape))
     for x, y in meaning(tape).trail[1:]:
         if (x + a, y) in road:
             return False
@@ -116,8 +116,8 @@ def heir(pattern):
     distance = max(LEAST_DISTANCE, lines + 2)
     n = FIRST_RING
     tape = _heir_with_ring(n, distance, from_its_corner)
-    while 2 * len(tape) + 6 != n:
-        n = 2 * len(tape) + 6
+    while ring_size(tape) != n:
+        n = ring_size(tape)
         tape = _heir_with_ring(n, distance, from_its_corner)
     # This refuses a tape with too many symbols, too: it is none.
     meaning(tape)

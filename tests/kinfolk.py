@@ -1,5 +1,7 @@
 """Constructors, written a second time: their pictures, their steps, and tapes of their own to try."""
 
+import functools
+
 from ramet.describe import describe
 from ramet.tape import read_tape
 from ramet.walker import meaning
@@ -51,6 +53,7 @@ def numbers_of(tape):
     return many, n, n // 2, (n // 2 - 1) // 2
 
 
+@functools.lru_cache(maxsize=None)
 def told_gives(tape):
     """The steps of 6.6, from the second walk."""
     walk = Walk(tape)
@@ -59,9 +62,10 @@ def told_gives(tape):
         step += {"digit": 2 * length + 2, "turn": 2 * length + 2, "forth": 2 * length + 3 * times + 2,
                  "write": 2 * length + times + 2}[what]
         steps.append(step)
-    return steps
+    return tuple(steps)
 
 
+@functools.lru_cache(maxsize=None)
 def told_done(tape):
     """The three numbers of 6.7."""
     many, n, _, _ = numbers_of(tape)

@@ -1,5 +1,7 @@
 """The walk of a tape, written a second time, entry by entry as 5.5 to 5.8 say it; and tapes to try."""
 
+import functools
+
 from ramet.tape import read_tape
 
 from tests.helpers import STEPS
@@ -12,6 +14,7 @@ KINDS = (
 )
 
 
+@functools.lru_cache(maxsize=None)
 def state_of_number(number):
     """The table of 1.21."""
     states = {0: None}
