@@ -18,27 +18,26 @@ class Families:
     def __init__(self, starts, walls):
         self._walls = {place: walls[place] for place in walls}
         self._members = []
-        self._many_starts = len(starts)
         # The greatest time up to which everything has happened; None if nothing has.
         self._grown = None
         for tape, corner in starts:
             self._add_start(Member(Breed(tape), corner, 0, -1, 0))
         for place in self._walls:
-            self._check_wall(place)
+            self._check_barrier(place)
 
     def _add_start(self, member):
-        if _is_far(member.room()):
+        if _is_far(member.room):
             raise NoRoom("the room of a machine is too far away")
         for other in self._members:
-            if not apart(member.room(), other.room()):
+            if not apart(member.room, other.room):
                 raise Crowded("the rooms of two machines are not apart")
         self._members.append(member)
 
-    def _check_wall(self, place):
+    def _check_barrier(self, place):
         if not is_barrier(self._walls[place]):
             raise BadWall(f"the cell at {place} is no wall")
         for member in self._members:
-            x0, y0, x1, y1 = member.body_box()
+            x0, y0, x1, y1 = member.body_box
             if x0 <= place[0] <= x1 and y0 <= place[1] <= y1:
                 raise BadWall(f"the wall at {place} stands in a machine")
 
@@ -67,20 +66,20 @@ class Families:
 
     def _take_turn(self, number):
         member = self._members[number]
-        room = member.room()
+        room = member.room
         things = cells_near(self._walls, room)
         for k, other in enumerate(self._members):
-            if k == number or k == member.parent or apart(other.room(), room):
+            if k == number or k == member.parent or apart(other.room, room):
                 continue
             if other.over() > member.begin:
                 raise Crowded(f"the machines {number} and {k} would work at the same time")
-            things = union(things, cells_near(other.cells(), room))
+            things = union(things, cells_near(other.remains(), room))
         member.take_turn(halt_among(member, things))
 
     def _give_birth(self, number):
         parent = self._members[number]
-        child = Member(parent.breed, parent.childs_corner(), parent.birth(), number, parent.generation + 1)
-        if _is_far(child.room()):
+        child = parent.child(number)
+        if _is_far(child.room):
             raise NoRoom("the room of a child is too far away")
         if len(self._members) >= MOST_KIN:
             raise TooMany("there are too many machines")
@@ -90,8 +89,8 @@ class Families:
     def machines(self):
         """Return a tuple (number, parent, generation, corner, begin, rest, halt) for each machine."""
         rows = []
-        for number, kin in enumerate(self._members):
-            rows.append((number, kin.parent, kin.generation, kin.corner, kin.begin, kin.rest, kin.halt))
+        for number, one in enumerate(self._members):
+            rows.append((number, one.parent, one.generation, one.corner, one.begin, one.rest, one.halt))
         return rows
 
     def tape(self, number):
@@ -110,7 +109,7 @@ class Families:
 
     def cells_of(self, number):
         """Return the cells of a machine at rest."""
-        return self._member(number).cells()
+        return self._member(number).remains()
 
     def _member(self, number):
         if number < 0 or number >= len(self._members):
@@ -129,8 +128,9 @@ class Families:
     def start(self):
         """Return the pattern at time 0."""
         pattern = {place: self._walls[place] for place in self._walls}
-        for member in self._members[:self._many_starts]:
-            pattern = union(pattern, moved(machine(member.breed.tape), member.corner[0], member.corner[1]))
+        for member in self._members:
+            if member.parent < 0:
+                pattern = union(pattern, moved(machine(member.breed.tape), member.corner[0], member.corner[1]))
         return pattern
 
     def space(self, time):
@@ -139,7 +139,7 @@ class Families:
             raise NotQuiet(f"the family is not quiet at the time {time}")
         pattern = {place: self._walls[place] for place in self._walls}
         for member in self._members:
-            pattern = union(pattern, member.cells())
+            pattern = union(pattern, member.remains())
         return pattern
 
 

@@ -17,7 +17,7 @@ def halt_among(member, things):
     _check_symbols(member, things)
     for index, visited in enumerate(member.breed.visits):
         for spot in visited:
-            if member.place(spot) in things:
+            if member.in_yard(spot) in things:
                 # The first command stands behind START.
                 return index + 1
     return 0
@@ -25,10 +25,10 @@ def halt_among(member, things):
 
 def _check_symbols(member, things):
     """Refuse symbols that could get from what is written to the things, or from these to the road."""
-    for state in list(member.breed.built.values()):
+    for state in member.breed.built.values():
         if _holds_symbol(state):
             raise Loaded("the machine writes a symbol near other things")
-    road = {member.place(spot): True for spot in member.breed.road}
+    road = {member.in_yard(spot): True for spot in member.breed.road}
     for place in things:
         state = things[place]
         if _holds_symbol(state) or state[0] == "arm":

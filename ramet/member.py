@@ -19,8 +19,8 @@ class Breed:
         self.built = built(tape)
         a = arm_column(ring_size(tape))
         self.visits = [[(x + a, y) for x, y in visited] for visited in meaning(tape).visits]
-        self.childs_corner = own(tape)
-        self.childs_delay = born(tape) - 1 if self.bears else 0
+        self.way_to_child = own(tape)
+        self.time_to_birth = born(tape) - 1 if self.bears else 0
 
 
 class Member:
@@ -32,6 +32,8 @@ class Member:
         self.begin = begin
         self.parent = parent
         self.generation = generation
+        self.body_box = moved_box(breed.body_box, corner[0], corner[1])
+        self.room = moved_box(breed.room, corner[0], corner[1])
         self.has_had_turn = False
         self.has_child = False
         self.halt = 0
@@ -49,11 +51,12 @@ class Member:
 
     def birth(self):
         """Return the time at which the child of a free parent begins."""
-        return self.begin + self.breed.childs_delay
+        return self.begin + self.breed.time_to_birth
 
-    def childs_corner(self):
-        """Return the corner of the child of a free parent."""
-        return self.place(self.breed.childs_corner)
+    def child(self, number):
+        """Return the child of a free parent that has this number."""
+        corner = self.in_yard(self.breed.way_to_child)
+        return Member(self.breed, corner, self.birth(), number, self.generation + 1)
 
     def over(self):
         """Return the time from which on the machine is over."""
@@ -61,18 +64,10 @@ class Member:
             return max(self.rest, self.birth())
         return self.rest
 
-    def place(self, spot):
+    def in_yard(self, place):
         """Return the place in the yard of a place that is counted from the corner."""
-        return (spot[0] + self.corner[0], spot[1] + self.corner[1])
+        return (place[0] + self.corner[0], place[1] + self.corner[1])
 
-    def room(self):
-        """Return the room of the machine in the yard."""
-        return moved_box(self.breed.room, self.corner[0], self.corner[1])
-
-    def body_box(self):
-        """Return the body box of the machine in the yard."""
-        return moved_box(self.breed.body_box, self.corner[0], self.corner[1])
-
-    def cells(self):
+    def remains(self):
         """Return the cells of the machine at rest."""
         return moved(halted_cells(self.breed.tape, self.halt), self.corner[0], self.corner[1])

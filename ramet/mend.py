@@ -10,7 +10,7 @@ from ramet.places import next_place
 from ramet.space import is_still, moved, union
 
 MENDED = ("wire", "not", "fork", "cross", "and", "or", "join")
-NET_CELLS = MENDED + ("reader",)
+NET_CELLS = ("wire", "not", "fork", "cross", "and", "or", "join", "reader")
 
 
 class Errand:
