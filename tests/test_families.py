@@ -385,6 +385,26 @@ class NearTest(unittest.TestCase):
                 # The child is there; its turn has not been.
                 self.assertEqual(len(families.machines()), 3)
 
+    def test_a_free_parent_is_over_when_it_is_at_rest_and_its_child_has_begun(self):
+        quick, slow, far = own_tape("d0 d3 forth"), own_tape("d3 forth", tail="d0"), own_tape("d5 d10 forth")
+        # The slow one is at rest when the quick one's child begins, but its own child has not begun.
+        self.assertTrue(done(slow) <= born(quick) - 1 < born(slow) - 1)
+        # The far one draws its long arm back when its child has begun.
+        self.assertTrue(born(far) - 1 < done(far))
+        for tape, other, wanted in ((quick, slow, Crowded), (HEIR, HEIR, None), (far, far, Crowded)):
+            # The other one stands to the north of the child's room: next to it, or one line further away.
+            north = room(tape)[1] + own(tape)[1]
+            for corner, raised in (((0, north - 4), wanted), ((0, north - 5), None)):
+                families = Families([(tape, (0, 0)), (other, corner)], {})
+                families.grow(born(tape) - 2)
+                if raised is None:
+                    families.grow(born(tape) - 1)
+                    self.assertEqual(families.machines()[2][1:4], (0, 1, own(tape)))
+                    self.assertEqual([row[6] for row in families.machines()][:3], [0, 0, 0])
+                else:
+                    with self.assertRaises(raised):
+                        families.grow(born(tape) - 1)
+
     def test_machines_that_are_over(self):
         # The worker's body stands in the way of the child, or only near it.
         self.assertEqual(halts([(HEIR, (0, 0)), (NOTHING, (20, -14))], {}, 9000), [0, 0, 2])
